@@ -47,6 +47,13 @@ func wantBytes(t *testing.T, call string, got impl.BytesResult, code int64, data
 	}
 }
 
+func wantCode(t *testing.T, call string, got int64, want int64) {
+	t.Helper()
+	if got != want {
+		t.Errorf("%s: code %d; want %d", call, got, want)
+	}
+}
+
 func wantBool(t *testing.T, call string, got bool, want bool) {
 	t.Helper()
 	if got != want {
@@ -64,4 +71,20 @@ func flipAll(data []byte) {
 	for i := range data {
 		data[i] ^= 255
 	}
+}
+
+// wantNoSharing turns all memory that an answer may reach, and then all of the argument's.
+func wantNoSharing(t *testing.T, call string, whole []byte, answer []byte) {
+	t.Helper()
+	before, kept := bytes.Clone(whole), bytes.Clone(answer)
+	flipAll(answer[:cap(answer)])
+	if !bytes.Equal(whole, before) {
+		t.Errorf("%s: the argument changes with the answer", call)
+	}
+	flipAll(answer[:cap(answer)])
+	flipAll(whole)
+	if !bytes.Equal(answer, kept) {
+		t.Errorf("%s: the answer changes with the argument", call)
+	}
+	flipAll(whole)
 }
