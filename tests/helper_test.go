@@ -61,6 +61,15 @@ func wantBool(t *testing.T, call string, got bool, want bool) {
 	}
 }
 
+// wantSame asks both ways round, and each thing with itself.
+func wantSame[T any](t *testing.T, same func(T, T) bool, call string, a T, b T, want bool) {
+	t.Helper()
+	wantBool(t, "the same: "+call, same(a, b), want)
+	wantBool(t, "the same the other way round: "+call, same(b, a), want)
+	wantBool(t, "the first one the same as itself: "+call, same(a, a), true)
+	wantBool(t, "the second one the same as itself: "+call, same(b, b), true)
+}
+
 // withSpare tells data in memory that goes on behind it, and all of that memory: an append to the first one would show in the second one.
 func withSpare(data []byte) ([]byte, []byte) {
 	whole := append(bytes.Clone(data), repeated(170, 8)...)

@@ -178,35 +178,26 @@ func TestP3TheBytesBehindTheArpHeadAreAddresses(t *testing.T) {
 	}
 }
 
-// wantSame asks both ways round, and each frame with itself.
-func wantSame(t *testing.T, call string, a impl.Frame, b impl.Frame, want bool) {
-	t.Helper()
-	wantBool(t, "SameFrames: "+call, impl.SameFrames(a, b), want)
-	wantBool(t, "SameFrames the other way round: "+call, impl.SameFrames(b, a), want)
-	wantBool(t, "SameFrames of the first one and itself: "+call, impl.SameFrames(a, a), true)
-	wantBool(t, "SameFrames of the second one and itself: "+call, impl.SameFrames(b, b), true)
-}
-
 // checkOneField turns one field after the other of a frame.
 func checkOneField(t *testing.T, call string, f impl.Frame) {
 	t.Helper()
 	copied := f
 	copied.Body = bytes.Clone(f.Body)
-	wantSame(t, call+": a copy", f, copied, true)
+	wantSame(t, impl.SameFrames, call+": a copy", f, copied, true)
 	to, from, kind, longer := f, f, f, f
 	to.To ^= 1
 	from.From ^= 1
 	kind.Kind ^= 1
 	longer.Body = append(bytes.Clone(f.Body), 0)
-	wantSame(t, call+": another To", f, to, false)
-	wantSame(t, call+": another From", f, from, false)
-	wantSame(t, call+": another Kind", f, kind, false)
-	wantSame(t, call+": one byte more", f, longer, false)
+	wantSame(t, impl.SameFrames, call+": another To", f, to, false)
+	wantSame(t, impl.SameFrames, call+": another From", f, from, false)
+	wantSame(t, impl.SameFrames, call+": another Kind", f, kind, false)
+	wantSame(t, impl.SameFrames, call+": one byte more", f, longer, false)
 	for at := range f.Body {
 		turned := f
 		turned.Body = bytes.Clone(f.Body)
 		turned.Body[at] ^= 1
-		wantSame(t, fmt.Sprintf("%s: another byte at %d", call, at), f, turned, false)
+		wantSame(t, impl.SameFrames, fmt.Sprintf("%s: another byte at %d", call, at), f, turned, false)
 	}
 }
 
@@ -215,8 +206,8 @@ func TestP3SameFrames(t *testing.T) {
 	checkOneField(t, "one byte", impl.Frame{To: 1, From: 2, Kind: 3, Body: []byte{0}})
 	checkOneField(t, "600 bytes", impl.Frame{To: impl.MaxMac, From: impl.MaxMac, Kind: 65535, Body: mixed(600)})
 	changed := impl.Frame{To: 2, From: 1, Kind: 3}
-	wantSame(t, "To and From changed", impl.Frame{To: 1, From: 2, Kind: 3}, changed, false)
-	wantSame(t, "nil and an empty body", impl.Frame{Body: nil}, impl.Frame{Body: []byte{}}, true)
+	wantSame(t, impl.SameFrames, "To and From changed", impl.Frame{To: 1, From: 2, Kind: 3}, changed, false)
+	wantSame(t, impl.SameFrames, "nil and an empty body", impl.Frame{Body: nil}, impl.Frame{Body: []byte{}}, true)
 }
 
 func TestP3SameFramesOfFramesWithAFault(t *testing.T) {
