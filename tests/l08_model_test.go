@@ -17,6 +17,7 @@ type modelEnd struct {
 	early                                                  map[int64]byte
 	irs                                                    uint32
 	closes, wasElse, isFinKnown, hasFin, isTimer, isWanted bool
+	isProbe                                                bool
 	waits                                                  []impl.Segment
 }
 
@@ -384,7 +385,6 @@ func (m *modelEnd) poll(now int64) []impl.Segment {
 		m.state = impl.StateClosed
 		return list
 	}
-	isProbe := false
 	if m.isTimer && m.timer <= now {
 		if m.window > 0 || m.acked == 0 {
 			m.tries++
@@ -394,14 +394,14 @@ func (m *modelEnd) poll(now int64) []impl.Segment {
 				return list
 			}
 		}
-		m.sent, m.isTimer, isProbe = m.acked, false, m.window == 0
+		m.sent, m.isTimer, m.isProbe = m.acked, false, m.isProbe || m.window == 0
 		m.wait *= 2
 		if m.wait > 16000 {
 			m.wait = 16000
 		}
 	}
 	for range 4 {
-		s, isOne := m.next(&isProbe)
+		s, isOne := m.next()
 		if !isOne {
 			break
 		}
@@ -418,7 +418,7 @@ func (m *modelEnd) poll(now int64) []impl.Segment {
 	return list
 }
 
-func (m *modelEnd) next(isProbe *bool) (impl.Segment, bool) {
+func (m *modelEnd) next() (impl.Segment, bool) {
 	first := m.sent
 	if m.isOneOf(impl.StateSynSent, impl.StateSynRcvd) && m.sent == 0 {
 		s := m.segment(0, impl.FlagSyn, nil)
@@ -433,8 +433,8 @@ func (m *modelEnd) next(isProbe *bool) (impl.Segment, bool) {
 		return impl.Segment{}, false
 	}
 	limit := m.acked + m.window
-	if *isProbe && limit <= m.sent {
-		limit, *isProbe = m.sent+1, false
+	if m.isProbe && limit <= m.sent {
+		limit, m.isProbe = m.sent+1, false
 	}
 	data := []byte{}
 	for m.sent+int64(len(data)) <= int64(len(m.out)) && int64(len(data)) < m.part && m.sent+int64(len(data)) < limit {

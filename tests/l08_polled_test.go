@@ -265,11 +265,6 @@ func TestP9Probes(t *testing.T) {
 		p.do(shut+"poll0 wait:500 recv1:3 poll1 come:0").wantEnd(0, "window=3").do("poll0").wantFlights("1:PA 4 a1 w20 de")
 		p.do("lose:0 wait:500 poll0").wantFlights("1:PA 4 a1 w20 de").wantEnd(0, "tries=1")
 	})
-	// A window of 0 that nobody told yet: each SYN is a try, and what follows keeps to the limit.
-	inAllPlays(t, "a SYN is none", endsOf(3, 10), func(p *play) {
-		p.do("open0 send0:abcde poll0 lose:0 wait:1000 poll0").wantEnd(0, "synsent window=0 tries=1").do("come:0 poll1 come:0 poll0").wantFlights("1:PA 1 a1 w20 abc").wantEnd(0, "sent=4")
-		p.do("poll0").wantFlights("1:PA 1 a1 w20 abc")
-	})
 }
 
 // A quiet end lasts for 60000 and is put off by what does not fit, unless it is a reset.
