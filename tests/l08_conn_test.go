@@ -346,7 +346,20 @@ func TestP1PairsAreNewMemory(t *testing.T) {
 	if given.seen() != before {
 		t.Error("the events, or what is behind them, were changed")
 	}
-	lists := bytesOf(answer)
+	wantListsApart(t, bytesOf(answer), given.seen)
+	for i := range given.list {
+		given.list[i].Kind ^= 7
+		flipAll(given.wholes[i])
+	}
+	if !arePairs(answer, kept) {
+		t.Error("the answer changes with the events")
+	}
+}
+
+// wantListsApart turns one list of an answer after the other: no other one changes with it, nor does what is seen of the arguments.
+func wantListsApart(t *testing.T, lists [][]byte, seen func() string) {
+	t.Helper()
+	before := seen()
 	for i, list := range lists {
 		was := textsOf(lists)
 		flipAll(list)
@@ -355,17 +368,10 @@ func TestP1PairsAreNewMemory(t *testing.T) {
 				t.Errorf("list %d of the answer changes with list %d", j, i)
 			}
 		}
-		if given.seen() != before {
-			t.Errorf("an event changes with list %d of the answer", i)
+		if seen() != before {
+			t.Errorf("an argument changes with list %d of the answer", i)
 		}
 		flipAll(list)
-	}
-	for i := range given.list {
-		given.list[i].Kind ^= 7
-		flipAll(given.wholes[i])
-	}
-	if !arePairs(answer, kept) {
-		t.Error("the answer changes with the events")
 	}
 }
 
